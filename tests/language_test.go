@@ -1,0 +1,79 @@
+package tests
+
+import (
+	"bytes"
+	"go/ast"
+	"go/format"
+	"go/parser"
+	"go/token"
+	"os"
+	"path/filepath"
+	"strings"
+	"testing"
+)
+
+// allowedImports are those that the language page names.
+const allowedImports = " bytes cmp container/heap errors iter maps math math/bits slices sort strconv strings sync sync/atomic unicode unicode/utf8 "
+
+const mostLines = 60
+
+func parsed(t *testing.T, fset *token.FileSet, path string) *ast.File {
+	t.Helper()
+	file, err := parser.ParseFile(fset, path, nil, parser.ParseComments)
+	if err != nil {
+		t.Fatal(err)
+	}
+	return file
+}
+
+func programFiles(t *testing.T) []string {
+	t.Helper()
+	paths, err := filepath.Glob("../impl/*.go")
+	if err != nil || len(paths) != 14 {
+		t.Fatalf("a file a layer: there are %d (%v)", len(paths), err)
+	}
+	return paths
+}
+
+func TestProgramKeepsToTheLanguage(t *testing.T) {
+	fset := token.NewFileSet()
+	for _, path := range programFiles(t) {
+		file := parsed(t, fset, path)
+		for _, i := range file.Imports {
+			if name := strings.Trim(i.Path.Value, "\""); !strings.Contains(allowedImports, " "+name+" ") {
+				t.Errorf("%s imports %s", path, name)
+			}
+		}
+		for _, d := range file.Decls {
+			f, ok := d.(*ast.FuncDecl)
+			if ok && fset.Position(f.End()).Line-fset.Position(f.Pos()).Line+1 > mostLines {
+				t.Errorf("%s: %s has more than %d lines", path, f.Name.Name, mostLines)
+			}
+		}
+		source, err := os.ReadFile(path)
+		if err != nil {
+			t.Fatal(err)
+		}
+		if laid, err := format.Source(source); err != nil || !bytes.Equal(laid, source) {
+			t.Errorf("%s has not gofmt's layout (%v)", path, err)
+		}
+	}
+}
+
+func TestWayOfBytes(t *testing.T) {
+	closures, variadics := 0, 0
+	ast.Inspect(parsed(t, token.NewFileSet(), "../impl/l01_field.go"), func(n ast.Node) bool {
+		switch x := n.(type) {
+		case *ast.FuncLit:
+			closures++
+		case *ast.Ellipsis:
+			if x.Elt != nil {
+				variadics++
+			}
+		}
+		return true
+	})
+	if closures == 0 || variadics == 0 {
+		t.Errorf("products by a closure: %d, bounds to a variadic function: %d", closures, variadics)
+	}
+}
