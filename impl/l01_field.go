@@ -94,7 +94,11 @@ func FieldInverse(a byte) byte {
 }
 
 func SubByte(a byte) byte {
-	inverse := FieldInverse(a)
+	return boxOfInverse(FieldInverse(a))
+}
+
+// boxOfInverse is SubByte of the byte with this inverse: who knows the inverse need not work it out again.
+func boxOfInverse(inverse byte) byte {
 	sum := byte(99)
 	for _, turn := range [5]int{0, 4, 5, 6, 7} {
 		sum ^= bits.RotateLeft8(inverse, -turn)
