@@ -77,3 +77,23 @@ func TestWayOfBytes(t *testing.T) {
 		t.Errorf("products by a closure: %d, bounds to a variadic function: %d", closures, variadics)
 	}
 }
+
+func TestWayOfKeys(t *testing.T) {
+	pointed, maps := 0, 0
+	ast.Inspect(parsed(t, token.NewFileSet(), "../impl/l04_ring.go"), func(n ast.Node) bool {
+		switch x := n.(type) {
+		case *ast.FuncDecl:
+			if x.Recv != nil {
+				if _, ok := x.Recv.List[0].Type.(*ast.StarExpr); ok {
+					pointed++
+				}
+			}
+		case *ast.MapType:
+			maps++
+		}
+		return true
+	})
+	if pointed == 0 || maps == 0 {
+		t.Errorf("a ring that is pointed at: %d, keys in a map: %d", pointed, maps)
+	}
+}
