@@ -97,3 +97,45 @@ func TestWayOfKeys(t *testing.T) {
 		t.Errorf("a ring that is pointed at: %d, keys in a map: %d", pointed, maps)
 	}
 }
+
+// TestWayOfEnvelopes looks for a struct that embeds another one of the file, and for a call of what that promotes.
+func TestWayOfEnvelopes(t *testing.T) {
+	file := parsed(t, token.NewFileSet(), "../impl/l05_envelope.go")
+	embedded, promoted, calls := map[string]bool{}, map[string]bool{}, 0
+	ast.Inspect(file, func(n ast.Node) bool {
+		if x, ok := n.(*ast.StructType); ok {
+			for _, f := range x.Fields.List {
+				if name, ok := f.Type.(*ast.Ident); ok && len(f.Names) == 0 {
+					embedded[name.Name] = true
+				}
+			}
+		}
+		return true
+	})
+	for _, d := range file.Decls {
+		f, ok := d.(*ast.FuncDecl)
+		if !ok || f.Recv == nil {
+			continue
+		}
+		if of, ok := f.Recv.List[0].Type.(*ast.Ident); ok && embedded[of.Name] {
+			promoted[f.Name.Name] = true
+		}
+	}
+	for _, d := range file.Decls {
+		f, ok := d.(*ast.FuncDecl)
+		if !ok || f.Recv == nil {
+			continue
+		}
+		// A method of the outer one that calls such a method by its own receiver calls what is promoted.
+		of, named := f.Recv.List[0].Type.(*ast.Ident)
+		ast.Inspect(f, func(n ast.Node) bool {
+			if x, ok := n.(*ast.SelectorExpr); ok && named && !embedded[of.Name] && promoted[x.Sel.Name] {
+				calls++
+			}
+			return true
+		})
+	}
+	if len(embedded) == 0 || len(promoted) == 0 || calls == 0 {
+		t.Errorf("what all have is embedded: %v, its methods: %v, calls of what is promoted: %d", embedded, promoted, calls)
+	}
+}
