@@ -139,3 +139,31 @@ func TestWayOfEnvelopes(t *testing.T) {
 		t.Errorf("what all have is embedded: %v, its methods: %v, calls of what is promoted: %d", embedded, promoted, calls)
 	}
 }
+
+// TestWayOfWindows looks for a map whose keys are a struct of the file, and for a delete from a map.
+func TestWayOfWindows(t *testing.T) {
+	file := parsed(t, token.NewFileSet(), "../impl/l06_replay.go")
+	structs, sets, deletes := map[string]bool{}, 0, 0
+	ast.Inspect(file, func(n ast.Node) bool {
+		if x, ok := n.(*ast.TypeSpec); ok {
+			_, structs[x.Name.Name] = x.Type.(*ast.StructType)
+		}
+		return true
+	})
+	ast.Inspect(file, func(n ast.Node) bool {
+		switch x := n.(type) {
+		case *ast.MapType:
+			if key, ok := x.Key.(*ast.Ident); ok && structs[key.Name] {
+				sets++
+			}
+		case *ast.CallExpr:
+			if called, ok := x.Fun.(*ast.Ident); ok && called.Name == "delete" {
+				deletes++
+			}
+		}
+		return true
+	})
+	if sets == 0 || deletes == 0 {
+		t.Errorf("sets of keys that are structs: %d, deletes: %d", sets, deletes)
+	}
+}
