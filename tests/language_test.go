@@ -167,3 +167,45 @@ func TestWayOfWindows(t *testing.T) {
 		t.Errorf("sets of keys that are structs: %d, deletes: %d", sets, deletes)
 	}
 }
+
+// TestWayOfMessages looks for an interface with methods, for a switch over the types that are one, and for the kinds by
+// iota.
+func TestWayOfMessages(t *testing.T) {
+	faces, switched, kinds := 0, 0, map[string]bool{}
+	ast.Inspect(parsed(t, token.NewFileSet(), "../impl/l07_wire.go"), func(n ast.Node) bool {
+		switch x := n.(type) {
+		case *ast.InterfaceType:
+			if len(x.Methods.List) > 0 {
+				faces++
+			}
+		case *ast.TypeSwitchStmt:
+			switched = max(switched, len(x.Body.List))
+		case *ast.GenDecl:
+			if x.Tok == token.CONST && usesIota(x) {
+				for _, s := range x.Specs {
+					kinds[s.(*ast.ValueSpec).Names[0].Name] = true
+				}
+			}
+		}
+		return true
+	})
+	for _, kind := range []string{"MsgPing", "MsgAck", "MsgAsk", "MsgClaim", "MsgKey"} {
+		if !kinds[kind] {
+			t.Errorf("%s is no constant by iota", kind)
+		}
+	}
+	if faces == 0 || switched < len(kinds) {
+		t.Errorf("messages that are an interface: %d, types that are told apart by a switch: %d", faces, switched)
+	}
+}
+
+func usesIota(group *ast.GenDecl) bool {
+	uses := false
+	ast.Inspect(group, func(n ast.Node) bool {
+		if name, ok := n.(*ast.Ident); ok && name.Name == "iota" {
+			uses = true
+		}
+		return true
+	})
+	return uses
+}
