@@ -199,6 +199,66 @@ func TestWayOfMessages(t *testing.T) {
 	}
 }
 
+// TestWayOfViews looks for a generic function that is told two lists of one kind and answers such a list, and for a call
+// of it in what both merges reach.
+func TestWayOfViews(t *testing.T) {
+	file := parsed(t, token.NewFileSet(), "../impl/l08_view.go")
+	merges, calls := map[string]bool{}, map[string]map[string]bool{}
+	for _, d := range file.Decls {
+		f, ok := d.(*ast.FuncDecl)
+		if !ok {
+			continue
+		}
+		if f.Type.TypeParams != nil && listsOf(f.Type.Params) >= 2 && listsOf(f.Type.Results) >= 1 {
+			merges[f.Name.Name] = true
+		}
+		calls[f.Name.Name] = calledBy(f)
+	}
+	for _, name := range []string{"MergeClaim", "MergeViews"} {
+		reached, reaches := []string{name}, false
+		seen := map[string]bool{name: true}
+		for len(reached) > 0 {
+			next := reached[0]
+			reached, reaches = reached[1:], reaches || merges[next]
+			for called := range calls[next] {
+				if !seen[called] {
+					seen[called], reached = true, append(reached, called)
+				}
+			}
+		}
+		if !reaches {
+			t.Errorf("%s reaches no generic function that merges: there are %v", name, merges)
+		}
+	}
+}
+
+// listsOf counts the lists among parameters or results.
+func listsOf(fields *ast.FieldList) int {
+	count := 0
+	if fields == nil {
+		return count
+	}
+	for _, f := range fields.List {
+		if list, ok := f.Type.(*ast.ArrayType); ok && list.Len == nil {
+			count += max(len(f.Names), 1)
+		}
+	}
+	return count
+}
+
+func calledBy(f *ast.FuncDecl) map[string]bool {
+	called := map[string]bool{}
+	ast.Inspect(f, func(n ast.Node) bool {
+		if x, ok := n.(*ast.CallExpr); ok {
+			if name, ok := x.Fun.(*ast.Ident); ok {
+				called[name.Name] = true
+			}
+		}
+		return true
+	})
+	return called
+}
+
 func usesIota(group *ast.GenDecl) bool {
 	uses := false
 	ast.Inspect(group, func(n ast.Node) bool {
