@@ -232,6 +232,40 @@ func TestWayOfViews(t *testing.T) {
 	}
 }
 
+// TestWayOfRules looks for a list that is ranged over by the integer of its length, and for loops that are left by their
+// labels: each such label stands at a loop.
+func TestWayOfRules(t *testing.T) {
+	ranges, loops, left := 0, map[string]bool{}, map[string]int{}
+	ast.Inspect(parsed(t, token.NewFileSet(), "../impl/l09_rule.go"), func(n ast.Node) bool {
+		switch x := n.(type) {
+		case *ast.RangeStmt:
+			if length, ok := x.X.(*ast.CallExpr); ok {
+				if name, ok := length.Fun.(*ast.Ident); ok && name.Name == "len" {
+					ranges++
+				}
+			}
+		case *ast.LabeledStmt:
+			switch x.Stmt.(type) {
+			case *ast.RangeStmt, *ast.ForStmt:
+				loops[x.Label.Name] = true
+			}
+		case *ast.BranchStmt:
+			if x.Tok == token.BREAK && x.Label != nil {
+				left[x.Label.Name]++
+			}
+		}
+		return true
+	})
+	for label := range left {
+		if !loops[label] {
+			t.Errorf("%s is left, and no loop", label)
+		}
+	}
+	if ranges == 0 || len(left) == 0 {
+		t.Errorf("waits that are ranged over by an integer: %d, loops that are left by their labels: %v", ranges, left)
+	}
+}
+
 // listsOf counts the lists among parameters or results.
 func listsOf(fields *ast.FieldList) int {
 	count := 0
