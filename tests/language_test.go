@@ -266,6 +266,74 @@ func TestWayOfRules(t *testing.T) {
 	}
 }
 
+// TestWayOfNames looks for jumps back by goto, and for an error of the file's own that is asked by errors.As.
+func TestWayOfNames(t *testing.T) {
+	labels, jumps := map[string]token.Pos{}, map[string]token.Pos{}
+	errorsOfItsOwn, vars, asked := map[string]bool{}, map[string]string{}, 0
+	file := parsed(t, token.NewFileSet(), "../impl/l10_dns.go")
+	ast.Inspect(file, func(n ast.Node) bool {
+		switch x := n.(type) {
+		case *ast.LabeledStmt:
+			labels[x.Label.Name] = x.Pos()
+		case *ast.BranchStmt:
+			if x.Tok == token.GOTO {
+				jumps[x.Label.Name] = x.Pos()
+			}
+		case *ast.FuncDecl:
+			if of := receiverOf(x); x.Name.Name == "Error" && of != "" {
+				errorsOfItsOwn[of] = true
+			}
+		case *ast.ValueSpec:
+			if of, ok := x.Type.(*ast.Ident); ok {
+				vars[x.Names[0].Name] = of.Name
+			}
+		}
+		return true
+	})
+	ast.Inspect(file, func(n ast.Node) bool {
+		if x, ok := n.(*ast.CallExpr); ok && isErrorsAs(x) {
+			if found, ok := x.Args[1].(*ast.UnaryExpr); ok {
+				if name, ok := found.X.(*ast.Ident); ok && errorsOfItsOwn[vars[name.Name]] {
+					asked++
+				}
+			}
+		}
+		return true
+	})
+	for label, at := range jumps {
+		if labels[label] >= at {
+			t.Errorf("the goto to %s does not jump back", label)
+		}
+	}
+	if len(jumps) == 0 || asked == 0 {
+		t.Errorf("jumps by goto: %d, errors of its own that are asked by errors.As: %d of %v", len(jumps), asked, errorsOfItsOwn)
+	}
+}
+
+// receiverOf is the type that a method is of, pointed at or not, or "".
+func receiverOf(f *ast.FuncDecl) string {
+	if f.Recv == nil {
+		return ""
+	}
+	of := f.Recv.List[0].Type
+	if star, ok := of.(*ast.StarExpr); ok {
+		of = star.X
+	}
+	if name, ok := of.(*ast.Ident); ok {
+		return name.Name
+	}
+	return ""
+}
+
+func isErrorsAs(call *ast.CallExpr) bool {
+	called, ok := call.Fun.(*ast.SelectorExpr)
+	if !ok || called.Sel.Name != "As" || len(call.Args) != 2 {
+		return false
+	}
+	from, ok := called.X.(*ast.Ident)
+	return ok && from.Name == "errors"
+}
+
 // listsOf counts the lists among parameters or results.
 func listsOf(fields *ast.FieldList) int {
 	count := 0
