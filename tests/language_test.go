@@ -291,7 +291,7 @@ func TestWayOfNames(t *testing.T) {
 		return true
 	})
 	ast.Inspect(file, func(n ast.Node) bool {
-		if x, ok := n.(*ast.CallExpr); ok && isErrorsAs(x) {
+		if x, ok := n.(*ast.CallExpr); ok && isErrorsCall(x, "As", 2) {
 			if found, ok := x.Args[1].(*ast.UnaryExpr); ok {
 				if name, ok := found.X.(*ast.Ident); ok && errorsOfItsOwn[vars[name.Name]] {
 					asked++
@@ -310,6 +310,74 @@ func TestWayOfNames(t *testing.T) {
 	}
 }
 
+// TestWayOfNodes looks for a channel that is made with room, for a select that takes of one, and for sentinels, each of
+// which is asked by errors.Is.
+func TestWayOfNodes(t *testing.T) {
+	channels, sentinels, asked, withRoom, taken := map[string]bool{}, map[string]bool{}, map[string]bool{}, 0, 0
+	file := parsed(t, token.NewFileSet(), "../impl/l11_world.go")
+	ast.Inspect(file, func(n ast.Node) bool {
+		switch x := n.(type) {
+		case *ast.TypeSpec:
+			_, channels[x.Name.Name] = x.Type.(*ast.ChanType)
+		case *ast.SelectStmt:
+			taken += receivedIn(x)
+		case *ast.CallExpr:
+			if isErrorsCall(x, "Is", 2) {
+				if name, ok := x.Args[1].(*ast.Ident); ok {
+					asked[name.Name] = true
+				}
+			}
+		}
+		return true
+	})
+	for _, d := range file.Decls {
+		group, ok := d.(*ast.GenDecl)
+		if !ok || group.Tok != token.VAR {
+			continue
+		}
+		for _, s := range group.Specs {
+			made, ok := s.(*ast.ValueSpec).Values[0].(*ast.CallExpr)
+			sentinels[s.(*ast.ValueSpec).Names[0].Name] = ok && isErrorsCall(made, "New", 1)
+		}
+	}
+	ast.Inspect(file, func(n ast.Node) bool {
+		if x, ok := n.(*ast.CallExpr); ok && len(x.Args) == 2 {
+			called, isName := x.Fun.(*ast.Ident)
+			of, isNamed := x.Args[0].(*ast.Ident)
+			if isName && isNamed && called.Name == "make" && channels[of.Name] {
+				withRoom++
+			}
+		}
+		return true
+	})
+	for name, isSentinel := range sentinels {
+		if !isSentinel || !asked[name] {
+			t.Errorf("%s is no sentinel that is asked by errors.Is", name)
+		}
+	}
+	if withRoom == 0 || taken == 0 || len(sentinels) == 0 {
+		t.Errorf("channels with room: %d, what is taken by select: %d, sentinels: %v", withRoom, taken, sentinels)
+	}
+}
+
+// receivedIn counts the cases of a select that take of a channel.
+func receivedIn(s *ast.SelectStmt) int {
+	count := 0
+	for _, c := range s.Body.List {
+		var taken ast.Expr
+		switch x := c.(*ast.CommClause).Comm.(type) {
+		case *ast.AssignStmt:
+			taken = x.Rhs[0]
+		case *ast.ExprStmt:
+			taken = x.X
+		}
+		if arrow, ok := taken.(*ast.UnaryExpr); ok && arrow.Op == token.ARROW {
+			count++
+		}
+	}
+	return count
+}
+
 // receiverOf is the type that a method is of, pointed at or not, or "".
 func receiverOf(f *ast.FuncDecl) string {
 	if f.Recv == nil {
@@ -325,9 +393,9 @@ func receiverOf(f *ast.FuncDecl) string {
 	return ""
 }
 
-func isErrorsAs(call *ast.CallExpr) bool {
+func isErrorsCall(call *ast.CallExpr, name string, count int) bool {
 	called, ok := call.Fun.(*ast.SelectorExpr)
-	if !ok || called.Sel.Name != "As" || len(call.Args) != 2 {
+	if !ok || called.Sel.Name != name || len(call.Args) != count {
 		return false
 	}
 	from, ok := called.X.(*ast.Ident)
